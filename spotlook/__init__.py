@@ -1,0 +1,1 @@
+"""Spotlook: which land a spot lies in."""
