@@ -44,3 +44,16 @@ def over(one, other):
 def is_less(one, other):
     """Whether the one fraction is less than the other."""
     return one[0] * other[1] < other[0] * one[1]
+
+
+def common_bottom(parts):
+    """The least number from 1 on that each fraction's bottom divides."""
+    common = 1
+    for part in parts:
+        common = common // greatest_divisor(common, part[1]) * part[1]
+    return common
+
+
+def top_over(part, bottom):
+    """The top of the fraction where it is written over this bottom, which its own one divides."""
+    return part[0] * (bottom // part[1])

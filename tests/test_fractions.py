@@ -4,11 +4,10 @@ import unittest
 from fractions import Fraction
 from math import gcd
 
-from helper import HelperMixin, as_exact, as_pair, kinds_under
+from helper import THIRTY, HelperMixin, as_exact, as_pair, kinds_under
 from spotlook.errors import NoFraction
 from spotlook.fractions import fraction, is_less, less, over, plus, times
 
-THIRTY = 10 ** 30 - 1
 WHOLE = (0, 1, -1, 2, -2, 3, -3, 6, -6, 12, -35, 97, 10 ** 15, 2 ** 64, -(2 ** 64),
          10 ** 29, -(10 ** 29), THIRTY, -THIRTY, THIRTY - 1)
 FRACTIONS = tuple(as_pair(exact) for exact in sorted({Fraction(top, bottom) for top in WHOLE for bottom in

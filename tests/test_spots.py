@@ -3,20 +3,15 @@
 import unittest
 from fractions import Fraction
 
-from helper import HelperMixin, as_exact, kinds_under, spot
+from helper import THIRTY, HelperMixin, exact_spot, kinds_under, spot
 from spotlook.errors import NoWall
 from spotlook.spots import is_ahead, lies_on, side_of, wall_of
 
-THIRTY = 10 ** 30 - 1
 # A small grid has spots with one x, with one y, and many that lie in one line.
 NUMBERS = (-2, Fraction(-1, 2), 0, Fraction(1, 3), 1)
 GRID = tuple(spot(x, y) for x in NUMBERS for y in NUMBERS)
 FAR = (spot(THIRTY, -THIRTY), spot(-THIRTY, Fraction(1, THIRTY)), spot(Fraction(THIRTY, THIRTY - 1), THIRTY - 1))
 SPOTS = GRID + FAR
-
-
-def exact_spot(one):
-    return (as_exact(one[0]), as_exact(one[1]))
 
 
 class Order(HelperMixin, unittest.TestCase):
