@@ -2,10 +2,11 @@
 
 from collections import namedtuple
 from fractions import Fraction
+from functools import cache
 from random import Random
 
 from spotlook.errors import Crossing
-from spotlook.plots import plot_of
+from spotlook.plots import corners_of, plot_of
 from spotlook.spots import wall_of
 
 THIRTY = 10 ** 30 - 1
@@ -163,6 +164,7 @@ def random_plot(seed, tries, numbers):
     return plot_of(walls)
 
 
+@cache
 def sample_plots():
     """Plots by name: boxes within boxes and beside one another, walls that hang freely, above a box, at a corner .."""
     plots = {"none": [], "one": walls_of([(0, 0, 3, 1)]), "upright": walls_of([(0, 0, 0, 2)])}
@@ -218,8 +220,34 @@ def random_plots():
     return plots + [grid_plot(seed, 3 + seed % 4, 15 + 3 * seed % 26) for seed in range(24)]
 
 
+@cache
 def many_plots():
-    return list(sample_plots().values()) + random_plots()
+    return tuple(sample_plots().values()) + tuple(random_plots())
+
+
+def line_spots(plot):
+    """Spots straight above and below corners, on the lines of walls within and beside them, at corners."""
+    corners = [exact_spot(corner) for corner in corners_of(plot)]
+    chance = Random(len(plot))
+    spots = [spot(0, 0)]
+    for x, y in corners:
+        spots += [spot(x, y + up) for up in (Fraction(1, 7), Fraction(-1, 7), chance.randrange(-3, 4))]
+        spots.append(spot(x, chance.choice(corners)[1]))
+    for (a, b), (c, d) in [exact_wall(part) for part in plot]:
+        for part in (Fraction(-1, 3), Fraction(1, 2), Fraction(4, 3)):
+            spots.append(spot(a + part * (c - a), b + part * (d - b)))
+    return spots
+
+
+def all_ends(way, looks=()):
+    """Each list of looks that leads the way to an answer, and the answer, as after tells it."""
+    told = way.after([look[2] for look in looks])
+    if told[0] == "told":
+        return [(list(looks), told[1])]
+    ends = [(list(looks) + [told[1:] + (0,)], told[1:])]
+    for side in (-1, 1):
+        ends += all_ends(way, looks + (told[1:] + (side,),))
+    return ends
 
 
 class Patches:

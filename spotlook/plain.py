@@ -1,0 +1,24 @@
+"""Plain looking: the land of a spot found from all walls."""
+
+from spotlook.above import upper_below
+from spotlook.lands import lands_of_faces
+from spotlook.plots import corners_of
+from spotlook.spots import lies_on
+
+
+def wall_below(plot, spot):
+    """The number of the wall below the spot; None where there is none."""
+    wall = upper_below(plot, spot)
+    return None if wall is None else plot.index(wall)
+
+
+def look_plainly(plot, spot):
+    """Where the spot lies: ("corner", c), ("wall", w) or ("land", k)."""
+    corners = corners_of(plot)
+    if spot in corners:
+        return ("corner", corners.index(spot))
+    for number, wall in enumerate(plot):
+        if lies_on(wall, spot):
+            return ("wall", number)
+    below = wall_below(plot, spot)
+    return ("land", 0 if below is None else lands_of_faces(plot)[2 * below])
