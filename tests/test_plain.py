@@ -88,7 +88,8 @@ class PlainLooking(HelperMixin, unittest.TestCase):
         plot = plot_of(box(0, 0, 4, 4))
         for one in (spot(HAIR, HAIR), spot(4 - HAIR, 4 - HAIR), spot(HAIR, 2), spot(2, HAIR), spot(4 - HAIR, 2)):
             self.assert_told(look_plainly(plot, one), ("land", 1))
-        for one in (spot(-HAIR, 2), spot(4 + HAIR, 2), spot(2, -HAIR), spot(2, 4 + HAIR), spot(0, -HAIR), spot(4, 4 + HAIR)):
+        for one in (spot(-HAIR, 2), spot(4 + HAIR, 2), spot(2, -HAIR), spot(2, 4 + HAIR), spot(0, -HAIR),
+                    spot(4, 4 + HAIR)):
             self.assert_told(look_plainly(plot, one), ("land", 0))
 
     def test_straight_above_and_below_corners(self):

@@ -80,7 +80,8 @@ class Meetings(HelperMixin, unittest.TestCase):
                 self.assert_told(meeting(one, other), exact_meeting(one, other))
 
     def test_spots_told_lie_on_both(self):
-        walls = [wall(x, THIRTY - 3 * x, Fraction(y, 7), Fraction(-THIRTY, 3 + y)) for x in range(4) for y in range(9, 13)]
+        walls = [wall(x, THIRTY - 3 * x, Fraction(y, 7), Fraction(-THIRTY, 3 + y))
+                 for x in range(4) for y in range(9, 13)]
         met = [(one, other, meeting(one, other)) for one in walls for other in walls if one != other]
         self.assertGreater(len([row for row in met if row[2] is not None]), 100)
         for one, other, told in met:
