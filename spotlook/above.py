@@ -19,6 +19,16 @@ def is_above(one, other):
     return side_of(one, deciding) == -1
 
 
+def above_table(plot):
+    """The table whose place [w][v] tells whether wall w of the plot lies above wall v."""
+    return [[is_above(one, other) for other in plot] for one in plot]
+
+
+def lowest_first(row, above):
+    """The numbers of walls that span one spot, from the lowest wall up; above is the plot's table of these."""
+    return sorted(row, key=lambda wall: len([other for other in row if above[wall][other]]))
+
+
 def upper_of(walls):
     """The upper one of one or more walls of a plot that span one spot."""
     upper = walls[0]

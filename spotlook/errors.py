@@ -35,7 +35,8 @@ class Absent(SpotError):
 
     def __init__(self, number):
         SpotError.__init__(self, f"nothing has the number {number}")
-        self.number = number
+        # What is asked for is handed in, and may be of a kind under int.
+        self.number = int(number)
 
 
 class NoText(SpotError):

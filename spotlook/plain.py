@@ -14,6 +14,11 @@ def wall_below(plot, spot):
 
 def look_plainly(plot, spot):
     """Where the spot lies: ("corner", c), ("wall", w) or ("land", k)."""
+    return look_with_lands(plot, lands_of_faces(plot), spot)
+
+
+def look_with_lands(plot, lands, spot):
+    """Where the spot lies; lands are those of the faces, by whatever numbers the lands are to be told."""
     corners = corners_of(plot)
     if spot in corners:
         return ("corner", corners.index(spot))
@@ -21,4 +26,4 @@ def look_plainly(plot, spot):
         if lies_on(wall, spot):
             return ("wall", number)
     below = wall_below(plot, spot)
-    return ("land", 0 if below is None else lands_of_faces(plot)[2 * below])
+    return ("land", 0 if below is None else lands[2 * below])

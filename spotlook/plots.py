@@ -82,3 +82,9 @@ def corners_of(plot):
         for end in wall:
             corners[own_spot(end)] = True
     return ahead_first(list(corners))
+
+
+def ends_by_number(plot, corners):
+    """For each wall of a plot with these corners the numbers of its first and its second end."""
+    numbers = {corner: number for number, corner in enumerate(corners)}
+    return [(numbers[first], numbers[second]) for first, second in plot]

@@ -1,25 +1,20 @@
 """Steps: between two corners that are next to each other the walls are passed from the lowest up."""
 
-from spotlook.above import is_above
+from spotlook.above import above_table, lowest_first
 from spotlook.lands import lands_of_faces
+from spotlook.plots import ends_by_number
 from spotlook.ways import Way, guide_by_halving, halves
 
 
 def steps_of(plot, corners):
     """For each number of passed corners the walls that span the spots there, from the lowest up."""
-    numbers = {corner: number for number, corner in enumerate(corners)}
-    ends = [(numbers[first], numbers[second]) for first, second in plot]
-    above = [[is_above(one, other) for other in plot] for one in plot]
+    ends = ends_by_number(plot, corners)
+    above = above_table(plot)
     rows = []
     for passed in range(len(corners) + 1):
         row = [wall for wall, (first, second) in enumerate(ends) if first < passed <= second]
         rows.append(lowest_first(row, above))
     return rows
-
-
-def lowest_first(row, above):
-    """The walls of a step, from the lowest up; above[w][v] tells whether wall w lies above wall v."""
-    return sorted(row, key=lambda wall: len([other for other in row if above[wall][other]]))
 
 
 def guide_of_step(row, lands):

@@ -5,11 +5,17 @@ from fractions import Fraction
 from functools import cache
 from random import Random
 
+from spotlook.cuts import Cuts
 from spotlook.errors import Crossing
+from spotlook.lands import lands_of_faces
+from spotlook.layers import Layers
 from spotlook.plots import corners_of, plot_of
 from spotlook.spots import wall_of
+from spotlook.steps import Steps
 
 THIRTY = 10 ** 30 - 1
+
+WAYS = (Steps, Layers, Cuts)
 
 # One kind under each kind that may be handed in.
 Pair = namedtuple("Pair", "one other")
@@ -225,6 +231,25 @@ def many_plots():
     return tuple(sample_plots().values()) + tuple(random_plots())
 
 
+@cache
+def many_ways():
+    """Each kind of way of each of the many plots."""
+    return tuple(kind(plot) for plot in many_plots() for kind in WAYS)
+
+
+@cache
+def small_plots():
+    """Plots of at most five walls: few enough that all lists of looks can be gone through."""
+    plots = [plot for plot in many_plots() if len(plot) <= 5]
+    for seed in range(12):
+        plots.append(random_plot(seed, 2 + seed % 4, range(3 + seed % 2)))
+    plots.append(plot_of(walls_of([(0, y, 2, y) for y in range(5)])))
+    plots.append(plot_of(walls_of([(x, 0, x, 2) for x in range(5)])))
+    plots.append(plot_of(walls_of([(x, 0, x + 1, 0) for x in range(5)])))
+    plots.append(plot_of(walls_of([(0, 0, 9, 0), (0, 0, 5, 9), (5, 9, 9, 0), (4, 2, 6, 2), (4, 3, 6, 3)])))
+    return tuple(plots)
+
+
 def line_spots(plot):
     """Spots straight above and below corners, on the lines of walls within and beside them, at corners."""
     corners = [exact_spot(corner) for corner in corners_of(plot)]
@@ -330,3 +355,73 @@ def height(one, x):
     """The y at which an exact wall that is not upright has this x."""
     (a, b), (c, d) = one
     return b + (d - b) * (x - a) / (c - a)
+
+
+def both_span(one, other):
+    """Whether there is a spot that both walls span: then the first such one is a first end."""
+    return any(exact_spot(one[0]) <= first < exact_spot(one[1]) and exact_spot(other[0]) <= first < exact_spot(other[1])
+               for first in (exact_spot(one[0]), exact_spot(other[0])))
+
+
+def height_at(one, x):
+    """How high an exact wall is at an x; of an upright one the middle."""
+    (a, b), (c, d) = one
+    return (b + d) / 2 if a == c else height(one, x)
+
+
+def exact_above(one, other):
+    """Whether the one wall is higher than the other in the middle of the xs that both have."""
+    if not both_span(one, other):
+        return False
+    first, second = exact_wall(one), exact_wall(other)
+    x = (max(first[0][0], second[0][0]) + min(first[1][0], second[1][0])) / 2
+    return height_at(first, x) > height_at(second, x)
+
+
+def left_of(plot, face, near=Fraction(1, 10 ** 120)):
+    """An exact spot at the left of a face, nearer to its middle than anything else of the plot."""
+    (a, b), (c, d) = exact_wall(plot[face // 2])
+    if face % 2:
+        a, b, c, d = c, d, a, b
+    return ((a + c) / 2 - near * (d - b), (b + d) / 2 + near * (c - a))
+
+
+@cache
+def exact_corners(plot):
+    return [exact_spot(corner) for corner in corners_of(plot)]
+
+
+@cache
+def lands_at_left(plot):
+    """The land of each wall's left face."""
+    return lands_of_faces(plot)[::2]
+
+
+def exact_side(word, number, plot, one):
+    """The side of a look, by Python's own fractions."""
+    x, y = exact_spot(one)
+    if word == "corner":
+        corner = exact_corners(plot)[number]
+        return ((x, y) > corner) - ((x, y) < corner)
+    (a, b), (c, d) = exact_wall(plot[number])
+    value = (c - a) * (y - b) - (d - b) * (x - a)
+    return (value > 0) - (value < 0)
+
+
+def halved(word, numbers, plot, one, looks):
+    """How many things are passed, None where a side is 0; the looks go into the list."""
+    low, high = 0, len(numbers)
+    while low < high:
+        middle = (low + high) // 2
+        side = exact_side(word, numbers[middle], plot, one)
+        looks.append((word, numbers[middle], side))
+        if side == 0:
+            return None
+        low, high = (middle + 1, high) if side == 1 else (low, middle)
+    return low
+
+
+@cache
+def spots_of(plot):
+    patches = Patches(plot)
+    return [patches.within(patch) for patch in patches.patches] + line_spots(plot) + corners_of(plot)

@@ -4,34 +4,13 @@ import unittest
 from fractions import Fraction
 from random import Random
 
-from helper import (THIRTY, HelperMixin, exact_spot, exact_wall, height, kinds_under, many_plots, spot, wall,
-                    walls_of)
+from helper import (THIRTY, HelperMixin, both_span, exact_above, exact_spot, exact_wall, kinds_under, many_plots, spot,
+                    wall, walls_of)
 from spotlook.above import is_above, spans, upper_of
 from spotlook.plots import corners_of, plot_of
 from spotlook.spots import wall_of
 
 HAIR = Fraction(1, THIRTY)
-
-
-def both_span(one, other):
-    """Whether there is a spot that both walls span: then the first such one is a first end."""
-    return any(exact_spot(one[0]) <= first < exact_spot(one[1]) and exact_spot(other[0]) <= first < exact_spot(other[1])
-               for first in (exact_spot(one[0]), exact_spot(other[0])))
-
-
-def height_at(one, x):
-    """How high an exact wall is at an x; of an upright one the middle."""
-    (a, b), (c, d) = one
-    return (b + d) / 2 if a == c else height(one, x)
-
-
-def exact_above(one, other):
-    """Whether the one wall is higher than the other in the middle of the xs that both have."""
-    if not both_span(one, other):
-        return False
-    first, second = exact_wall(one), exact_wall(other)
-    x = (max(first[0][0], second[0][0]) + min(first[1][0], second[1][0])) / 2
-    return height_at(first, x) > height_at(second, x)
 
 
 class Spans(HelperMixin, unittest.TestCase):

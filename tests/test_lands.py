@@ -4,21 +4,14 @@ import unittest
 from fractions import Fraction
 from random import Random
 
-from helper import (THIRTY, HelperMixin, Patches, as_exact, as_pair, box, exact_wall, kinds_under, ladder, many_plots,
-                    sample_plots, spot, wall_of, walls_of)
+from helper import (THIRTY, HelperMixin, Patches, as_exact, as_pair, box, kinds_under, ladder, left_of, many_plots,
+                    sample_plots, spot, walls_of)
 from spotlook.lands import lands_of, lands_of_faces
 from spotlook.parting import parted
 from spotlook.plain import look_plainly
 from spotlook.plots import plot_of
 from spotlook.rings import ring_area, rings_of
-
-
-def left_of(plot, face, near=Fraction(1, 10 ** 120)):
-    """An exact spot at the left of a face, nearer to its middle than anything else of the plot."""
-    (a, b), (c, d) = exact_wall(plot[face // 2])
-    if face % 2:
-        a, b, c, d = c, d, a, b
-    return ((a + c) / 2 - near * (d - b), (b + d) / 2 + near * (c - a))
+from spotlook.spots import wall_of
 
 
 def rings_within(land):

@@ -2,51 +2,14 @@
 
 import unittest
 from fractions import Fraction
-from functools import cache
 
-from helper import (HelperMixin, Patches, all_ends, box, exact_spot, exact_wall, kinds_under, ladder, line_spots,
-                    many_plots, sample_plots, spot, walls_of)
+from helper import (HelperMixin, all_ends, box, halved, kinds_under, ladder, lands_at_left, many_plots, sample_plots,
+                    spot, spots_of, walls_of)
 from spotlook.above import is_above, spans
-from spotlook.lands import lands_of_faces
 from spotlook.plain import look_plainly
 from spotlook.plots import corners_of, plot_of
 from spotlook.steps import Steps
 from spotlook.ways import halves
-
-
-@cache
-def exact_corners(plot):
-    return [exact_spot(corner) for corner in corners_of(plot)]
-
-
-@cache
-def lands_at_left(plot):
-    """The land of each wall's left face."""
-    return lands_of_faces(plot)[::2]
-
-
-def exact_side(word, number, plot, one):
-    """The side of a look, by Python's own fractions."""
-    x, y = exact_spot(one)
-    if word == "corner":
-        corner = exact_corners(plot)[number]
-        return ((x, y) > corner) - ((x, y) < corner)
-    (a, b), (c, d) = exact_wall(plot[number])
-    value = (c - a) * (y - b) - (d - b) * (x - a)
-    return (value > 0) - (value < 0)
-
-
-def halved(word, numbers, plot, one, looks):
-    """How many things are passed, None where a side is 0; the looks go into the list."""
-    low, high = 0, len(numbers)
-    while low < high:
-        middle = (low + high) // 2
-        side = exact_side(word, numbers[middle], plot, one)
-        looks.append((word, numbers[middle], side))
-        if side == 0:
-            return None
-        low, high = (middle + 1, high) if side == 1 else (low, middle)
-    return low
 
 
 def awaited_looks(plot, rows, one):
@@ -59,12 +22,6 @@ def awaited_looks(plot, rows, one):
         if passed is not None:
             return (looks, ("land", lands_at_left(plot)[row[passed - 1]] if passed else 0))
     return (looks, looks[-1][:2])
-
-
-@cache
-def spots_of(plot):
-    patches = Patches(plot)
-    return [patches.within(patch) for patch in patches.patches] + line_spots(plot) + corners_of(plot)
 
 
 class TheSteps(HelperMixin, unittest.TestCase):

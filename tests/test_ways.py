@@ -1,12 +1,14 @@
-"""Promises 15 and 16: looks, ways and what leads them to answers, halving. The ways here are steps."""
+"""Promises 15 and 16: looks, ways and what leads them to answers, halving. The ways told by hand are steps."""
 
 import unittest
 from fractions import Fraction
 
-from helper import THIRTY, HelperMixin, all_ends, box, kinds_under, many_plots, sample_plots, spot, walls_of
+from helper import (THIRTY, WAYS, HelperMixin, all_ends, box, exact_side, kinds_under, many_plots, many_ways,
+                    sample_plots, small_plots, spot, spots_of, walls_of)
+from spotlook.cuts import Cuts
+from spotlook.layers import Layers
 from spotlook.plain import look_plainly
 from spotlook.plots import corners_of, plot_of
-from spotlook.spots import is_ahead, side_of
 from spotlook.steps import Steps
 from spotlook.ways import Way, halves
 
@@ -14,6 +16,11 @@ from spotlook.ways import Way, halves
 def box_way():
     """A way of a box from 0 to 4. Its corners are (0, 0), (0, 4), (4, 0) and (4, 4)."""
     return Steps(plot_of(box(0, 0, 4, 4)))
+
+
+def some_spots():
+    """Spots among the walls of most plots, and beside them."""
+    return [spot(Fraction(x, 3), Fraction(2 * x + 1, 3)) for x in range(-1, 20)]
 
 
 # The looks of the spot in the middle of the box.
@@ -49,27 +56,32 @@ class Halving(HelperMixin, unittest.TestCase):
 class WayItself(HelperMixin, unittest.TestCase):
     def test_where_it_stands(self):
         self.assertEqual(Way.__bases__, (object,))
-        self.assertEqual(Steps.__bases__, (Way,))
-        self.assertIsInstance(box_way(), Way)
+        for kind, name in ((Steps, "spotlook.steps"), (Layers, "spotlook.layers"), (Cuts, "spotlook.cuts")):
+            self.assertEqual((kind.__bases__, kind.__module__), ((Way,), name))
+            self.assertIsInstance(kind(()), Way)
 
     def test_the_plot_is_kept(self):
         for plot in many_plots():
-            self.assert_told(Steps(plot).plot, plot)
+            for kind in WAYS:
+                self.assert_told(kind(plot).plot, plot)
 
     def test_the_plot_is_copied(self):
         plot = plot_of(box(0, 0, 4, 4))
-        self.assert_told(Steps(kinds_under(plot)).plot, plot)
+        for kind in WAYS:
+            self.assert_told(kind(kinds_under(plot)).plot, plot)
 
     def test_each_has_its_own_plot(self):
-        one, other = Steps(()), box_way()
-        self.assert_told((one.plot, other.plot), ((), plot_of(box(0, 0, 4, 4))))
-        self.assert_told((one.look(spot(2, 2)), other.look(spot(2, 2))), (("land", 0), ("land", 1)))
+        for kind in WAYS:
+            one, other = kind(()), kind(plot_of(box(0, 0, 4, 4)))
+            self.assert_told((one.plot, other.plot), ((), plot_of(box(0, 0, 4, 4))))
+            self.assert_told((one.look(spot(2, 2)), other.look(spot(2, 2))), (("land", 0), ("land", 1)))
 
 
 class After(HelperMixin, unittest.TestCase):
     def test_at_the_begin(self):
         self.assert_told(box_way().after([]), ("look", "corner", 2))
-        self.assert_told(Steps(()).after([]), ("told", ("land", 0)))
+        for kind in WAYS:
+            self.assert_told(kind(()).after([]), ("told", ("land", 0)))
 
     def test_on_the_way(self):
         way = box_way()
@@ -99,19 +111,20 @@ class After(HelperMixin, unittest.TestCase):
         self.assertEqual([way.after(sides) for sides in ([], [-1], [-1, 1], [-1, 1, -1, 1])], before)
 
     def test_as_looks_are_made(self):
-        for plot in many_plots():
-            way = Steps(plot)
-            for corner in corners_of(plot) + [spot(Fraction(x, 2), Fraction(2 * x + 1, 3)) for x in range(-1, 10)]:
-                looks = way.looks(corner)
+        for way in many_ways():
+            for one in corners_of(way.plot) + some_spots():
+                looks = way.looks(one)
                 for at, (word, number, side) in enumerate(looks):
                     self.assert_told(way.after([look[2] for look in looks[:at]]), ("look", word, number))
-                self.assert_told(way.after([look[2] for look in looks]), ("told", way.look(corner)))
+                self.assert_told(way.after([look[2] for look in looks]), ("told", way.look(one)))
 
 
 class Looks(HelperMixin, unittest.TestCase):
     def test_of_the_plot_of_none(self):
-        self.assert_told(Steps(()).looks(spot(3, 4)), [])
-        self.assert_told(Steps(()).look(spot(3, 4)), ("land", 0))
+        for kind in WAYS:
+            self.assert_told(kind(()).looks(spot(3, 4)), [])
+            self.assert_told(kind(()).look(spot(3, 4)), ("land", 0))
+            self.assert_told(kind(()).most(), 0)
 
     def test_to_a_land(self):
         self.assert_told(box_way().looks(spot(2, 2)), MIDDLE)
@@ -127,15 +140,11 @@ class Looks(HelperMixin, unittest.TestCase):
         self.assert_told(way.look(spot(2, 0)), ("wall", 0))
 
     def test_each_tells_what_is_so(self):
-        for plot in many_plots():
-            way, corners = Steps(plot), corners_of(plot)
-            for one in [spot(Fraction(x, 2), Fraction(2 * x + 1, 3)) for x in range(-1, 12)] + corners:
+        for way in many_ways():
+            for one in corners_of(way.plot) + some_spots():
                 for word, number, side in way.looks(one):
-                    if word == "corner":
-                        awaited = is_ahead(corners[number], one) - is_ahead(one, corners[number])
-                    else:
-                        awaited = side_of(plot[number], one)
-                    self.assert_told((word in ("corner", "wall"), side), (True, awaited))
+                    self.assertIn(word, ("corner", "wall"))
+                    self.assert_told(side, exact_side(word, number, way.plot, one))
 
 
 class Led(HelperMixin, unittest.TestCase):
@@ -147,8 +156,9 @@ class Led(HelperMixin, unittest.TestCase):
         self.assert_told(way.led(MIDDLE[:3] + [("wall", 0, -1)]), ("land", 0))
 
     def test_the_list_of_none(self):
-        self.assert_told(Steps(()).led([]), ("land", 0))
-        self.assert_told(box_way().led([]), None)
+        for kind in WAYS:
+            self.assert_told(kind(()).led([]), ("land", 0))
+            self.assert_told(kind(plot_of(box(0, 0, 4, 4))).led([]), None)
 
     def test_too_short(self):
         for at in range(4):
@@ -183,31 +193,41 @@ class Led(HelperMixin, unittest.TestCase):
         self.assert_told(box_way().led(MIDDLE[1:]), None)
 
     def test_whatever_its_sides_are(self):
-        for plot in many_plots():
-            if len(plot) < 20:
-                way = Steps(plot)
-                for looks, answer in all_ends(way):
-                    self.assert_told(way.led(looks), answer)
-                    self.assert_told(way.led(looks[:-1]), None if looks else answer)
-                    self.assert_told(way.led(looks + looks[-1:]), None if looks else answer)
-                    self.assertLessEqual(len(looks), way.most())
+        for way in [kind(plot) for plot in small_plots() for kind in WAYS]:
+            for looks, answer in all_ends(way):
+                self.assert_told(way.led(looks), answer)
+                self.assert_told(way.led(looks[:-1]), None if looks else answer)
+                self.assert_told(way.led(looks + looks[-1:]), None if looks else answer)
+                self.assert_told(way.led([("corner", 0, 5)] + looks), None)
+                self.assertLessEqual(len(looks), way.most())
 
     def test_looks_that_hold_of_a_spot_lead_to_its_answer(self):
-        for plot in many_plots():
-            way = Steps(plot)
-            for one in corners_of(plot) + [spot(Fraction(x, 3), Fraction(2 * x + 1, 3)) for x in range(-1, 20)]:
-                self.assert_told(way.led(way.looks(one)), look_plainly(plot, one))
+        for way in many_ways():
+            for one in corners_of(way.plot) + some_spots():
+                self.assert_told(way.led(way.looks(one)), look_plainly(way.plot, one))
+
+    def test_whoever_wrote_looks_that_hold_they_lead_to_the_right_answer(self):
+        for plot in small_plots():
+            for way in [kind(plot) for kind in WAYS]:
+                ends = all_ends(way)
+                for one in spots_of(plot):
+                    sides = {(word, number): exact_side(word, number, plot, one)
+                             for looks, answer in ends for word, number, side in looks}
+                    held = [(looks, answer) for looks, answer in ends
+                            if all(sides[look[:2]] == look[2] for look in looks)]
+                    self.assertEqual(held, [(way.looks(one), look_plainly(plot, one))])
 
 
 class WhatHoldsEverywhere(HelperMixin, unittest.TestCase):
     """Promise 2, as far as it touches ways."""
 
     def test_what_is_told_is_the_askers_own(self):
-        way = box_way()
-        self.assert_own(lambda: way.looks(spot(2, 2)), lambda told: told.pop())
-        self.assert_own(lambda: way.looks(spot(2, 2)), lambda told: told.clear())
-        self.assert_told(way.look(spot(2, 2)), ("land", 1))
-        self.assert_told(way.led(MIDDLE), ("land", 1))
+        for way in [kind(plot_of(box(0, 0, 4, 4))) for kind in WAYS]:
+            looks = way.looks(spot(2, 2))
+            self.assert_own(lambda: way.looks(spot(2, 2)), lambda told: told.pop())
+            self.assert_own(lambda: way.looks(spot(2, 2)), lambda told: told.clear())
+            self.assert_told(way.look(spot(2, 2)), ("land", 1))
+            self.assert_told(way.led(looks), ("land", 1))
 
     def test_nothing_that_is_handed_in_is_changed(self):
         way = box_way()
@@ -236,10 +256,11 @@ class WhatHoldsEverywhere(HelperMixin, unittest.TestCase):
         self.assert_told(way.after(kinds_under([-1, 1])), ("look", "wall", 1))
 
     def test_great_numbers(self):
-        way = Steps(sample_plots()["great"])
         hair = Fraction(1, THIRTY)
-        for one in (spot(0, 0), spot(hair ** 40, hair ** 39), spot(0, Fraction(-THIRTY, 2)), spot(THIRTY * THIRTY, 0)):
-            self.assert_told(way.look(one), look_plainly(way.plot, one))
+        for way in [kind(sample_plots()["great"]) for kind in WAYS]:
+            for one in (spot(0, 0), spot(hair ** 40, hair ** 39), spot(0, Fraction(-THIRTY, 2)),
+                        spot(THIRTY * THIRTY, 0)):
+                self.assert_told(way.look(one), look_plainly(way.plot, one))
 
 
 if __name__ == "__main__":
