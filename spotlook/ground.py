@@ -78,6 +78,12 @@ class Ground:
             raise Absent(land)
         return [number for at, number in enumerate(self.standing) if land in self.face_lands[2 * at:2 * at + 2]]
 
+    def land_in_plot(self, land):
+        """The number that the land has in the plot; Absent where no land has the number."""
+        if land not in self.lands():
+            raise Absent(land)
+        return 0 if land == 0 else lands_of_faces(self.as_plot())[self.face_lands.index(land)]
+
     def look(self, spot):
         """Where the spot lies, as plain looking tells it, but walls and lands by their numbers in the ground."""
         word, number = look_with_lands(self.as_plot(), self.face_lands, spot)

@@ -9,6 +9,7 @@ from spotlook.cuts import Cuts
 from spotlook.errors import Crossing
 from spotlook.lands import lands_of_faces
 from spotlook.layers import Layers
+from spotlook.plain import look_plainly
 from spotlook.plots import corners_of, plot_of
 from spotlook.spots import wall_of
 from spotlook.steps import Steps
@@ -67,6 +68,15 @@ class HelperMixin:
         spoil(first)
         self.assertNotEqual(first, second)
         self.assert_told(ask(), second)
+
+    def assert_finds(self, way, awaited):
+        """Of each spot just the awaited looks are made, no more than told ahead, to what plain looking tells."""
+        for one in spots_of(way.plot):
+            looks, answer = awaited(one)
+            self.assert_told(way.looks(one), looks)
+            self.assert_told(way.look(one), answer)
+            self.assert_told(look_plainly(way.plot, one), answer)
+            self.assertLessEqual(len(looks), way.most())
 
 
 def lists_within(value):

@@ -195,25 +195,11 @@ class LookingByCuts(HelperMixin, unittest.TestCase):
         self.assert_told(way.looks(spot(-1, 0)), [("corner", 1, -1), ("corner", 0, -1)])
         self.assert_told(way.looks(spot(4, -1)), [("corner", 1, -1), ("corner", 0, 1), ("wall", 0, -1)])
 
-    def test_looks_are_just_those_told(self):
+    def test_of_each_spot_they_tell_what_plain_looking_tells_by_just_the_told_looks(self):
         for plot in many_plots():
             way = Cuts(plot)
             tree = way.tree()
-            for one in spots_of(plot):
-                looks, answer = gone_through(tree, plot, one)
-                self.assert_told(way.looks(one), looks)
-                self.assert_told(way.look(one), answer)
-
-    def test_they_tell_what_plain_looking_tells(self):
-        for plot in many_plots():
-            way = Cuts(plot)
-            for one in spots_of(plot):
-                self.assert_told(way.look(one), look_plainly(plot, one))
-
-    def test_they_need_no_more_looks_than_told_ahead(self):
-        for plot in many_plots():
-            way = Cuts(plot)
-            self.assertLessEqual(max(len(way.looks(one)) for one in spots_of(plot)), way.most())
+            self.assert_finds(way, lambda one: gone_through(tree, plot, one))
 
     def test_led(self):
         way = Cuts(plot_of(walls_of([(0, 0, 4, 0)])))

@@ -4,7 +4,7 @@ import unittest
 from fractions import Fraction
 
 from helper import (THIRTY, HelperMixin, box, exact_above, exact_corners, exact_side, exact_spot, halved, kinds_under,
-                    ladder, lands_at_left, many_plots, sample_plots, spot, spots_of, walls_of)
+                    ladder, lands_at_left, many_plots, sample_plots, spot, walls_of)
 from spotlook.above import spans
 from spotlook.layers import Layers
 from spotlook.plain import look_plainly
@@ -136,25 +136,11 @@ class LookingByLayers(HelperMixin, unittest.TestCase):
         way = Layers(sample_plots()["within"])
         self.assert_told([way.look(one) for one in (spot(6, -1), spot(-1, 6), spot(13, 6))], [("land", 0)] * 3)
 
-    def test_looks_are_just_those_told(self):
+    def test_of_each_spot_they_tell_what_plain_looking_tells_by_just_the_told_looks(self):
         for plot in many_plots():
             way = Layers(plot)
             rows = way.layers()
-            for one in spots_of(plot):
-                looks, answer = awaited_looks(plot, rows, one)
-                self.assert_told(way.looks(one), looks)
-                self.assert_told(way.look(one), answer)
-
-    def test_they_tell_what_plain_looking_tells(self):
-        for plot in many_plots():
-            way = Layers(plot)
-            for one in spots_of(plot):
-                self.assert_told(way.look(one), look_plainly(plot, one))
-
-    def test_they_need_no_more_looks_than_told_ahead(self):
-        for plot in many_plots():
-            way = Layers(plot)
-            self.assertLessEqual(max(len(way.looks(one)) for one in spots_of(plot)), way.most())
+            self.assert_finds(way, lambda one: awaited_looks(plot, rows, one))
 
     def test_forty_one_above_the_other(self):
         way = Layers(plot_of(walls_of([(0, y, 1, y) for y in range(40)])))

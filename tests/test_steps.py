@@ -4,9 +4,8 @@ import unittest
 from fractions import Fraction
 
 from helper import (HelperMixin, all_ends, box, halved, kinds_under, ladder, lands_at_left, many_plots, sample_plots,
-                    spot, spots_of, walls_of)
+                    spot, walls_of)
 from spotlook.above import is_above, spans
-from spotlook.plain import look_plainly
 from spotlook.plots import corners_of, plot_of
 from spotlook.steps import Steps
 from spotlook.ways import halves
@@ -63,25 +62,11 @@ class TheSteps(HelperMixin, unittest.TestCase):
 
 
 class LookingBySteps(HelperMixin, unittest.TestCase):
-    def test_looks_are_just_those_told(self):
+    def test_of_each_spot_they_tell_what_plain_looking_tells_by_just_the_told_looks(self):
         for plot in many_plots():
             way = Steps(plot)
             rows = way.steps()
-            for one in spots_of(plot):
-                looks, answer = awaited_looks(plot, rows, one)
-                self.assert_told(way.looks(one), looks)
-                self.assert_told(way.look(one), answer)
-
-    def test_they_tell_what_plain_looking_tells(self):
-        for plot in many_plots():
-            way = Steps(plot)
-            for one in spots_of(plot):
-                self.assert_told(way.look(one), look_plainly(plot, one))
-
-    def test_they_need_no_more_looks_than_told_ahead(self):
-        for plot in many_plots():
-            way = Steps(plot)
-            self.assertLessEqual(max(len(way.looks(one)) for one in spots_of(plot)), way.most())
+            self.assert_finds(way, lambda one: awaited_looks(plot, rows, one))
 
     def test_each_answer_is_a_land_of_the_plot(self):
         plot = plot_of(box(0, 0, 9, 9) + box(2, 2, 4, 4))
